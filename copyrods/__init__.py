@@ -1,0 +1,1 @@
+"""Pantographs in a row: what rows of copying devices do to a drawing."""
