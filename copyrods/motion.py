@@ -47,6 +47,17 @@ def whole_point(right, up):
     return (fraction(right, 1), fraction(up, 1))
 
 
+def step_between(start, end):
+    """How far end lies to the right of start and above it, as a point is told."""
+    return (minus(end[0], start[0]), minus(end[1], start[1]))
+
+
+def square_between(start, end):
+    """The square of how far two points lie from one another."""
+    step = step_between(start, end)
+    return plus(times(step[0], step[0]), times(step[1], step[1]))
+
+
 def told_point(point):
     """The four numbers that tell a point."""
     return list(point[0]) + list(point[1])
@@ -84,14 +95,21 @@ def moved(motion, point):
 def about_pivot(pivot, size, mirrors):
     """The motion of one device: the shift is what keeps its pivot in its place."""
     pivot_copy = moved(Motion(mirrors, size, MIDDLE), pivot)
-    shift = (minus(pivot[0], pivot_copy[0]), minus(pivot[1], pivot_copy[1]))
-    return Motion(mirrors, size, shift)
+    return Motion(mirrors, size, step_between(pivot_copy, pivot))
 
 
 def joined(first, second):
     """The one motion that does what first and then second do."""
     mirrors = (first.mirrors + second.mirrors) % 2
     return Motion(mirrors, times(first.size, second.size), moved(second, first.shift))
+
+
+def shift_apart(first, second):
+    """By how much a copy by first and then second lies beyond the one by second and then first.
+
+    Mirroring and sizes do the same in either order, so the shifts alone tell it, for all points at once.
+    """
+    return step_between(joined(second, first).shift, joined(first, second).shift)
 
 
 def told_motion(motion):

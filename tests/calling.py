@@ -5,6 +5,7 @@ from copyrods.workshop import answers
 BEGIN = [0]
 LOOK = [11]
 LONGEST_ROW = 5
+LONGEST_FOUND_ROW = 3
 MOST_CALLS = 60
 
 

@@ -1,6 +1,6 @@
 import unittest
 
-from calling import BEGIN, ask, ask_last, copy, device, far
+from calling import BEGIN, ask, ask_last, copy, device
 
 THREE = [device(10, 20, 3, 2), device(-4, 6, 1, 3, 1, 0), device(5, -8, 2, 1, 0, 1)]
 
@@ -48,17 +48,6 @@ class Copy(unittest.TestCase):
 
     def test_a_copy_may_lie_beyond_the_bounds(self):
         self.assertEqual(ask_last(BEGIN, device(-100, 0, 9, 1), copy(100, 100, [0])), [0, 1700, 1, 900, 1])
-
-
-class WrongNumbersOfFar(unittest.TestCase):
-    def test_each_bound_from_beyond(self):
-        for place in range(4):
-            for number in (101, -101, 200, -200):
-                numbers = [0] * 4
-                numbers[place] = number
-                with self.subTest(numbers=numbers):
-                    self.assertEqual(ask_last(BEGIN, *THREE, far(*numbers, [0])), [-1])
-                    self.assertEqual(ask_last(BEGIN, *THREE, far(*numbers, [3])), [-2])
 
 
 if __name__ == "__main__":

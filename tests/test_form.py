@@ -44,6 +44,37 @@ def names_bound(tree):
             yield (node.id if isinstance(node, ast.Name) else node.attr), node.lineno
 
 
+WALKED_NAMES = ("range", "zip", "enumerate", "reversed")
+WALKED_METHODS = ("items", "keys", "values")
+WALKING_NAMES = ("list", "tuple", "dict", "sorted", "sum", "any", "all", "enumerate", "zip", "min", "max")
+NAMES_NOT_USED = set("""register mro elements open input version_info with_traceback add_note attrgetter breakpoint
+    builtins compile copyright credits delattr dir eval exec exit gc getattr globals hasattr help id importlib license
+    locals methodcaller os quit setattr super vars sys __name__ chr print format format_map""".split())
+
+
+def is_call_of(node, names):
+    return isinstance(node, ast.Call) and isinstance(node.func, ast.Name) and node.func.id in names
+
+
+def is_call_of_method(node, names):
+    return isinstance(node, ast.Call) and isinstance(node.func, ast.Attribute) and node.func.attr in names
+
+
+def walked_on_the_spot(tree):
+    """What stands behind an in of a for or a comprehension, or first in a call that walks it."""
+    places = [node.iter for node in ast.walk(tree) if isinstance(node, (ast.For, ast.comprehension))]
+    return places + [node.args[0] for node in ast.walk(tree) if is_call_of(node, WALKING_NAMES) and node.args]
+
+
+def is_plain_value(node):
+    """Whether a value of a file's top is a whole number, a text, or a tuple of these."""
+    if isinstance(node, ast.Tuple):
+        return all(is_plain_value(part) for part in node.elts)
+    if isinstance(node, ast.UnaryOp):
+        return isinstance(node.op, ast.USub) and is_plain_value(node.operand)
+    return isinstance(node, ast.Constant)
+
+
 def functions_of(tree):
     return [node for node in ast.walk(tree) if isinstance(node, ast.FunctionDef)]
 
@@ -148,6 +179,114 @@ class Form(unittest.TestCase):
             for function in functions_of(tree):
                 bound = {name for name, line in names_bound(function)} - {function.name}
                 self.assertEqual(bound & taken, set(), function.name)
+
+    def test_the_top_of_a_file(self):
+        for tree in self.each_tree():
+            self.assertIsNotNone(ast.get_docstring(tree))
+            for node in tree.body[1:]:
+                self.assertIsInstance(node, (ast.ImportFrom, ast.FunctionDef, ast.ClassDef, ast.Assign))
+                if isinstance(node, ast.Assign):
+                    self.assertTrue(is_plain_value(node.value), f"line {node.lineno}")
+
+    def test_comprehensions(self):
+        for tree in self.each_tree():
+            for node in ast.walk(tree):
+                if isinstance(node, ast.ListComp):
+                    self.assertEqual(len(node.generators), 1, f"line {node.lineno}")
+                    self.assertLessEqual(len(node.generators[0].ifs), 1, f"line {node.lineno}")
+
+    def test_is_stands_beside_none_true_and_false_alone(self):
+        for tree in self.each_tree():
+            for node in ast.walk(tree):
+                if isinstance(node, ast.Compare) and isinstance(node.ops[0], (ast.Is, ast.IsNot)):
+                    beside = [part.value for part in node.comparators if isinstance(part, ast.Constant)]
+                    self.assertEqual(len(beside), 1, f"line {node.lineno}")
+                    self.assertIn(beside[0], (None, True, False), f"line {node.lineno}")
+
+    def test_no_annotations_and_no_keywords(self):
+        for tree in self.each_tree():
+            for node in ast.walk(tree):
+                self.assertNotIsInstance(node, (ast.AnnAssign, ast.keyword))
+                if isinstance(node, ast.arg):
+                    self.assertIsNone(node.annotation, f"line {node.lineno}")
+                if isinstance(node, ast.FunctionDef):
+                    self.assertIsNone(node.returns, f"line {node.lineno}")
+
+    def test_names_that_are_not_used(self):
+        for tree in self.each_tree():
+            for node in ast.walk(tree):
+                if isinstance(node, (ast.Name, ast.Attribute)):
+                    name = node.id if isinstance(node, ast.Name) else node.attr
+                    self.assertNotIn(name, NAMES_NOT_USED, f"line {node.lineno}")
+
+    def test_classes_are_only_called(self):
+        for tree in self.each_tree():
+            classes = {node.name for node in ast.walk(tree) if isinstance(node, ast.ClassDef)}
+            called = [node.func for node in ast.walk(tree) if isinstance(node, ast.Call)]
+            for node in ast.walk(tree):
+                if isinstance(node, ast.Name) and node.id in classes:
+                    self.assertIn(node, called, f"line {node.lineno}")
+                if isinstance(node, ast.ClassDef):
+                    methods = [part.name for part in node.body if isinstance(part, ast.FunctionDef)]
+                    self.assertEqual(methods, ["__init__"], node.name)
+
+    def test_no_error_is_raised_or_taken(self):
+        for tree in self.each_tree():
+            for node in ast.walk(tree):
+                self.assertNotIsInstance(node, (ast.Raise, ast.Try))
+
+    def test_what_is_walked_is_walked_on_the_spot(self):
+        for tree in self.each_tree():
+            walked = walked_on_the_spot(tree)
+            for node in ast.walk(tree):
+                if is_call_of(node, WALKED_NAMES) or is_call_of_method(node, WALKED_METHODS):
+                    self.assertIn(node, walked, f"line {node.lineno}")
+
+    def test_what_a_loop_walks_is_not_changed_in_it(self):
+        for tree in self.each_tree():
+            for loop in ast.walk(tree):
+                if isinstance(loop, ast.For):
+                    walked = ast.unparse(loop.iter)
+                    for node in ast.walk(loop):
+                        if is_call_of_method(node, ("append", "extend", "insert", "pop", "remove", "clear")):
+                            self.assertNotEqual(ast.unparse(node.func.value), walked, f"line {node.lineno}")
+
+    def test_sets_are_only_counted(self):
+        for tree in self.each_tree():
+            counted = [
+                part for node in ast.walk(tree) if is_call_of(node, ("len", "sorted")) for part in node.args]
+            for node in ast.walk(tree):
+                if is_call_of(node, ("set", "frozenset")):
+                    self.assertIn(node, counted, f"line {node.lineno}")
+
+    def test_no_power_and_no_percent_sign_in_a_text(self):
+        for tree in self.each_tree():
+            for node in ast.walk(tree):
+                self.assertNotIsInstance(node, ast.Pow)
+                if isinstance(node, ast.Constant) and isinstance(node.value, str):
+                    self.assertNotIn("%", node.value)
+
+    def test_no_two_files_draw_from_one_another(self):
+        drawn = {}
+        for path in FILES:
+            tree = ast.parse(path.read_text(encoding="utf-8"))
+            drawn[path.stem] = {
+                node.module.split(".")[1] for node in tree.body if isinstance(node, ast.ImportFrom)}
+        self.assertEqual(drawn["__init__"], set())
+        while drawn:
+            free = [stem for stem, others in drawn.items() if not others & drawn.keys()]
+            self.assertNotEqual(free, [], f"these draw from one another: {sorted(drawn)}")
+            for stem in free:
+                del drawn[stem]
+
+    def test_names_are_drawn_from_the_file_that_defines_them(self):
+        for tree in self.each_tree():
+            for node in tree.body:
+                if isinstance(node, ast.ImportFrom):
+                    source = ast.parse((PACKAGE / f"{node.module.split('.')[1]}.py").read_text(encoding="utf-8"))
+                    defined = {part.name for part in source.body if isinstance(part, (ast.FunctionDef, ast.ClassDef))}
+                    for alias in node.names:
+                        self.assertIn(alias.name, defined)
 
     def test_imports(self):
         for tree in self.each_tree():
